@@ -24,12 +24,18 @@ type walker struct {
 	all     []*thread
 }
 
-// Values are nil, bool, int, string, *pairs, *lambda, native and *thread.
+// Values are nil, bool, int, string, *pairs, *lambda, callable, native and
+// *thread.
 type pairs struct{ list [][2]any }
 
 type lambda struct {
 	number int
 	taken  []*any
+}
+
+// callable is a function that is not one of the program's code.
+type callable interface {
+	called(args []any) ([]any, *ending)
 }
 
 type native int
@@ -56,7 +62,12 @@ func raising(text string) *ending { return &ending{held: text} }
 
 func runByModel(p impl.Program, inputs [][]byte, budget int) impl.Outcome {
 	w := &walker{Program: p, inputs: inputs, budget: budget, now: &thread{state: "running"}}
-	_, bad := w.apply(&lambda{}, nil)
+	return w.outcome(&lambda{})
+}
+
+// outcome is what is seen when a function is called as the main one.
+func (w *walker) outcome(main any) impl.Outcome {
+	_, bad := w.apply(main, nil)
 	out := impl.Outcome{Prints: w.prints, Steps: w.steps, Frames: w.most}
 	for _, t := range w.all {
 		if t.stop != nil {
@@ -135,6 +146,8 @@ func (w *walker) apply(f any, args []any) ([]any, *ending) {
 			f, args = results[0], results[1:]
 		case native:
 			return w.native(int(g), args)
+		case callable:
+			return g.called(args)
 		default:
 			return nil, raising("call")
 		}
